@@ -1,0 +1,80 @@
+// Package errand: errands that are undone when they fail, and go on where they were when the power fails: see DOC.md.
+package errand
+
+import (
+	"errand/files"
+	"errand/lang"
+)
+
+// Errno is what a call answers: OK or the reason for a refusal.
+type Errno int
+
+const (
+	OK       Errno = 0
+	ErrLong  Errno = 1  // above a bound
+	ErrText  Errno = 2  // no errand
+	ErrNest  Errno = 3  // too deep
+	ErrCount Errno = 4  // a number that may not be
+	ErrName  Errno = 5  // a word that is no variable
+	ErrType  Errno = 6  // of another kind
+	ErrCode  Errno = 7  // no code
+	ErrNone  Errno = 8  // nothing was asked
+	ErrFull  Errno = 9  // the files are full
+	ErrOther Errno = 10 // another errand's journal
+)
+
+// How an errand ended.
+const (
+	Waits  int = 0
+	Done   int = 1
+	Undone int = 2
+	Stuck  int = 3
+	Spent  int = 4
+)
+
+// Ask is what is asked.
+type Ask struct {
+	Word     string
+	Arg, Try int
+	Undo     bool
+}
+
+// Errand is an errand and its journal. Make it by Start.
+type Errand struct{}
+
+// Check tells whether a text is an errand (P2).
+func Check(text string) (Errno, int) {
+	_, err := lang.Read(text)
+	return told(err)
+}
+
+// Print writes it in few signs (P3).
+func Print(text string) (string, Errno, int) {
+	tree, err := lang.Read(text)
+	if err != nil {
+		number, place := told(err)
+		return "", number, place
+	}
+	return lang.Print(tree), OK, 0
+}
+
+// Run runs it (P4).
+func Run(text string, answers []int) ([]Ask, int, Errno, int) { return nil, 0, 0, 0 }
+
+// Code makes code of it (P5).
+func Code(text string) (string, Errno, int) { return "", 0, 0 }
+
+// Exec runs code (P5).
+func Exec(code string, answers []int) ([]Ask, int, Errno) { return nil, 0, 0 }
+
+// Start starts it over files (P6).
+func Start(f *files.Files, text string) (*Errand, Errno, int) { return nil, 0, 0 }
+
+// Next tells what is asked now (P7).
+func (e *Errand) Next() (Ask, bool, int, Errno) { return Ask{}, false, 0, 0 }
+
+// Tell tells the answer (P7).
+func (e *Errand) Tell(answer int) Errno { return 0 }
+
+// Value tells what a variable holds (P7).
+func (e *Errand) Value(word string) (int, Errno) { return 0, 0 }

@@ -1,0 +1,35 @@
+package errand
+
+import (
+	"errors"
+
+	"errand/lang"
+)
+
+// told makes of an error from inside the number and the place that a call answers.
+func told(err error) (Errno, int) {
+	var fault *lang.Fault
+	if errors.As(err, &fault) {
+		return number(err), fault.Place
+	}
+	return number(err), 0
+}
+
+func number(err error) Errno {
+	switch {
+	case err == nil:
+		return OK
+	case errors.Is(err, lang.ErrLong):
+		return ErrLong
+	case errors.Is(err, lang.ErrNest):
+		return ErrNest
+	case errors.Is(err, lang.ErrCount):
+		return ErrCount
+	case errors.Is(err, lang.ErrName):
+		return ErrName
+	case errors.Is(err, lang.ErrType):
+		return ErrType
+	default:
+		return ErrText
+	}
+}
