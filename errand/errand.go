@@ -4,6 +4,7 @@ package errand
 import (
 	"errand/files"
 	"errand/lang"
+	"errand/machine"
 )
 
 // Errno is what a call answers: OK or the reason for a refusal.
@@ -59,13 +60,36 @@ func Print(text string) (string, Errno, int) {
 }
 
 // Run runs it (P4).
-func Run(text string, answers []int) ([]Ask, int, Errno, int) { return nil, 0, 0, 0 }
+func Run(text string, answers []int) ([]Ask, int, Errno, int) {
+	tree, err := lang.Read(text)
+	if err != nil {
+		number, place := told(err)
+		return nil, 0, number, place
+	}
+	asks, end := machine.Run(machine.Make(tree), answers)
+	return asked(asks), int(end), OK, 0
+}
 
 // Code makes code of it (P5).
-func Code(text string) (string, Errno, int) { return "", 0, 0 }
+func Code(text string) (string, Errno, int) {
+	tree, err := lang.Read(text)
+	if err != nil {
+		number, place := told(err)
+		return "", number, place
+	}
+	return machine.Write(machine.Make(tree)), OK, 0
+}
 
 // Exec runs code (P5).
-func Exec(code string, answers []int) ([]Ask, int, Errno) { return nil, 0, 0 }
+func Exec(code string, answers []int) ([]Ask, int, Errno) {
+	program, err := machine.Read(code)
+	if err != nil {
+		number, _ := told(err)
+		return nil, 0, number
+	}
+	asks, end := machine.Run(program, answers)
+	return asked(asks), int(end), OK
+}
 
 // Start starts it over files (P6).
 func Start(f *files.Files, text string) (*Errand, Errno, int) { return nil, 0, 0 }

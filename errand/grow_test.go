@@ -12,6 +12,7 @@ type grower struct {
 	*rand.Rand
 	text   strings.Builder
 	mixed  bool // exprs of any kind anywhere, and words that are given nowhere
+	firm   bool // few statements fail of themselves, and many are undone
 	wholes []string
 	truths []string
 }
@@ -71,6 +72,9 @@ func (g *grower) stmt(deep int) {
 	if deep == 0 {
 		kind = g.Intn(3)
 	}
+	if kind == 2 && g.firm && g.Intn(4) > 0 {
+		kind = 1
+	}
 	switch kind {
 	case 0:
 		g.let()
@@ -124,7 +128,7 @@ func (g *grower) call() {
 		g.put("as", w)
 		g.wholes = append(g.wholes, w)
 	}
-	if g.Intn(3) == 0 {
+	if g.Intn(3) == 0 || g.firm && g.Intn(2) == 0 {
 		g.put("undo", g.word())
 	}
 	if g.Intn(3) == 0 {

@@ -4,6 +4,7 @@ import (
 	"errors"
 
 	"errand/lang"
+	"errand/machine"
 )
 
 // told makes of an error from inside the number and the place that a call answers.
@@ -29,7 +30,18 @@ func number(err error) Errno {
 		return ErrName
 	case errors.Is(err, lang.ErrType):
 		return ErrType
+	case errors.Is(err, machine.ErrCode):
+		return ErrCode
 	default:
 		return ErrText
 	}
+}
+
+// asked makes of what the machine asked what a call answers.
+func asked(asks []machine.Ask) []Ask {
+	var list []Ask
+	for _, a := range asks {
+		list = append(list, Ask(a))
+	}
+	return list
 }
