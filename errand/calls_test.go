@@ -30,11 +30,28 @@ func everyCall(t *testing.T, text string, answers []int) {
 	if asks, end, err := errand.Exec(text, answers); err != errand.OK && (asks != nil || end != 0) {
 		t.Errorf("Exec(%q) = %v, %d, %d", text, asks, end, err)
 	}
-	if e, err, place := errand.Start(files.New(0), text); err != errand.OK && e != nil || err == errand.OK && place != 0 {
-		t.Errorf("Start(%q): %d, %d", text, err, place)
-	}
+	goOver(t, files.New(0), text, answers)
 	if !slices.Equal(answers, given) {
 		t.Errorf("%q: the answers were changed", text)
+	}
+}
+
+// goOver starts an errand over files, tells answers as long as something is asked, and tells of each error whether the other results are empty.
+func goOver(t *testing.T, f *files.Files, text string, answers []int) {
+	t.Helper()
+	e, err, place := errand.Start(f, text)
+	if (err == errand.OK) != (e != nil) || (err == errand.OK || err > errand.ErrType) && place != 0 {
+		t.Errorf("Start(%q) = %v, %d, %d", text, e, err, place)
+	}
+	for _, answer := range answers[:min(len(answers), 20)] {
+		a, again, end, err := e.Next()
+		if (err != errand.OK || end != errand.Waits) && (a != (errand.Ask{}) || again) || err != errand.OK && end != 0 {
+			t.Errorf("%q: Next = %v, %v, %d, %d", text, a, again, end, err)
+		}
+		e.Tell(answer)
+		if n, err := e.Value(text); n != 0 || err != errand.ErrName {
+			t.Errorf("Value(%q) = %d, %d", text, n, err)
+		}
 	}
 }
 

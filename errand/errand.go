@@ -3,6 +3,7 @@ package errand
 
 import (
 	"errand/files"
+	"errand/journal"
 	"errand/lang"
 	"errand/machine"
 )
@@ -41,7 +42,11 @@ type Ask struct {
 }
 
 // Errand is an errand and its journal. Make it by Start.
-type Errand struct{}
+type Errand struct {
+	machine *machine.Machine // nil: it was not started
+	journal *journal.Journal
+	asked   bool // the last call of Next answered an ask, and it was not told yet
+}
 
 // Check tells whether a text is an errand (P2).
 func Check(text string) (Errno, int) {
@@ -92,13 +97,62 @@ func Exec(code string, answers []int) ([]Ask, int, Errno) {
 }
 
 // Start starts it over files (P6).
-func Start(f *files.Files, text string) (*Errand, Errno, int) { return nil, 0, 0 }
+func Start(f *files.Files, text string) (*Errand, Errno, int) {
+	tree, err := lang.Read(text)
+	if err != nil {
+		number, place := told(err)
+		return nil, number, place
+	}
+	j, err := journal.Open(f, text)
+	if err != nil {
+		number, place := told(err)
+		return nil, number, place
+	}
+	m := machine.New(machine.Make(tree), j)
+	m.Go()
+	return &Errand{machine: m, journal: j}, OK, 0
+}
 
 // Next tells what is asked now (P7).
-func (e *Errand) Next() (Ask, bool, int, Errno) { return Ask{}, false, 0, 0 }
+func (e *Errand) Next() (Ask, bool, int, Errno) {
+	if !e.started() {
+		return Ask{}, false, 0, ErrNone
+	}
+	e.asked = false
+	if end := e.machine.End(); end != machine.Waits {
+		return Ask{}, false, int(end), OK
+	}
+	ask, again, err := e.journal.Ask()
+	if err != nil {
+		return Ask{}, false, 0, number(err)
+	}
+	e.asked = true
+	return Ask(ask), again, Waits, OK
+}
 
 // Tell tells the answer (P7).
-func (e *Errand) Tell(answer int) Errno { return 0 }
+func (e *Errand) Tell(answer int) Errno {
+	if !e.started() || !e.asked {
+		return ErrNone
+	}
+	if err := e.journal.Tell(answer); err != nil {
+		return number(err)
+	}
+	e.asked = false
+	e.machine.Go()
+	return OK
+}
 
 // Value tells what a variable holds (P7).
-func (e *Errand) Value(word string) (int, Errno) { return 0, 0 }
+func (e *Errand) Value(word string) (int, Errno) {
+	if !e.started() {
+		return 0, ErrName
+	}
+	value, ok := e.machine.Value(word)
+	if !ok {
+		return 0, ErrName
+	}
+	return value, OK
+}
+
+func (e *Errand) started() bool { return e != nil && e.machine != nil }

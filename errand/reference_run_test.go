@@ -25,19 +25,41 @@ type refRunner struct {
 }
 
 // refRun answers what Run must, for a text that is an errand.
-func refRun(text string, answers []int) (asks []errand.Ask, end int) {
+func refRun(text string, answers []int) ([]errand.Ask, int) {
 	r := &refRunner{holds: map[string]*big.Int{}, answers: answers}
+	end := r.run(text)
+	return r.asks, end
+}
+
+// refValues answers what each variable of an errand holds behind answers.
+func refValues(text string, answers []int) map[string]int {
+	r := &refRunner{holds: map[string]*big.Int{}, answers: answers}
+	r.run(text)
+	values := map[string]int{}
+	signs, _ := refSigns(text)
+	for i, s := range signs {
+		if s.text == "let" || s.text == "as" {
+			values[signs[i+1].text] = 0
+		}
+	}
+	for word, n := range r.holds {
+		values[word] = int(n.Int64())
+	}
+	return values
+}
+
+func (r *refRunner) run(text string) (end int) {
 	signs, _ := refSigns(text)
 	defer func() {
 		if thrown := recover(); thrown != nil {
-			asks, end = r.asks, thrown.(refEnds).end
+			end = thrown.(refEnds).end
 		}
 	}()
 	if !r.holdsOut(signs) {
 		r.undoPile()
-		return r.asks, errand.Undone
+		return errand.Undone
 	}
-	return r.asks, errand.Done
+	return errand.Done
 }
 
 // holdsOut does statements; false: something fails.

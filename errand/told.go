@@ -3,6 +3,7 @@ package errand
 import (
 	"errors"
 
+	"errand/journal"
 	"errand/lang"
 	"errand/machine"
 )
@@ -32,6 +33,10 @@ func number(err error) Errno {
 		return ErrType
 	case errors.Is(err, machine.ErrCode):
 		return ErrCode
+	case errors.Is(err, journal.ErrFull):
+		return ErrFull
+	case errors.Is(err, journal.ErrOther):
+		return ErrOther
 	default:
 		return ErrText
 	}

@@ -7,19 +7,24 @@ type Ask struct {
 	Undo     bool
 }
 
-// journal holds what was asked, and the answers that are still to come.
-type journal struct {
+// Journal hears what is asked, and knows the answers.
+type Journal interface {
+	// AnswerTo hears an ask, and answers it; false: there is no answer to it yet.
+	AnswerTo(Ask) (int, bool)
+}
+
+// list is a journal that is kept nowhere: what was asked, and the answers that are still to come.
+type list struct {
 	asks    []Ask
 	answers []int
 }
 
-// answerTo notes what is asked; false: there is no answer to it.
-func (j *journal) answerTo(a Ask) (int, bool) {
-	j.asks = append(j.asks, a)
-	if len(j.answers) == 0 {
+func (l *list) AnswerTo(a Ask) (int, bool) {
+	l.asks = append(l.asks, a)
+	if len(l.answers) == 0 {
 		return 0, false
 	}
-	answer := j.answers[0]
-	j.answers = j.answers[1:]
+	answer := l.answers[0]
+	l.answers = l.answers[1:]
 	return answer, true
 }

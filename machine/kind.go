@@ -41,38 +41,38 @@ const (
 type meaning struct {
 	needs        []operand
 	takes, gives int
-	do           func(m *machine, i instruction) error
+	do           func(m *Machine, i instruction) error
 }
 
 // meanings is the table of all kinds. (A function, since at package level no table of functions may stand.)
 func meanings() [kindCount]meaning {
 	return [kindCount]meaning{
-		kindPush:     {[]operand{plain}, 0, 1, func(m *machine, i instruction) error { m.push(int64(i.operands[0])); return nil }},
-		kindLoad:     {[]operand{ofVariable}, 0, 1, func(m *machine, i instruction) error { m.push(m.variables[i.operands[0]]); return nil }},
-		kindStore:    {[]operand{ofVariable}, 1, 0, func(m *machine, i instruction) error { m.variables[i.operands[0]] = m.pop(); return nil }},
-		kindDrop:     {nil, 1, 0, func(m *machine, _ instruction) error { m.pop(); return nil }},
+		kindPush:     {[]operand{plain}, 0, 1, func(m *Machine, i instruction) error { m.push(int64(i.operands[0])); return nil }},
+		kindLoad:     {[]operand{ofVariable}, 0, 1, func(m *Machine, i instruction) error { m.push(m.variables[i.operands[0]]); return nil }},
+		kindStore:    {[]operand{ofVariable}, 1, 0, func(m *Machine, i instruction) error { m.variables[i.operands[0]] = m.pop(); return nil }},
+		kindDrop:     {nil, 1, 0, func(m *Machine, _ instruction) error { m.pop(); return nil }},
 		kindAdd:      pair(func(left, right int64) int64 { return left + right }),
 		kindSubtract: pair(func(left, right int64) int64 { return left - right }),
 		kindMultiply: pair(func(left, right int64) int64 { return left * right }),
-		kindDivide:   {nil, 2, 1, func(m *machine, _ instruction) error { return m.divide() }},
+		kindDivide:   {nil, 2, 1, func(m *Machine, _ instruction) error { return m.divide() }},
 		kindLess:     pair(func(left, right int64) int64 { return truth(left < right) }),
 		kindSame:     pair(func(left, right int64) int64 { return truth(left == right) }),
 		kindDiffer:   pair(func(left, right int64) int64 { return truth(left != right) }),
-		kindNot:      {nil, 1, 1, func(m *machine, _ instruction) error { m.push(truth(m.pop() == 0)); return nil }},
-		kindJump:     {[]operand{ofPlace}, 0, 0, func(m *machine, i instruction) error { m.place = i.operands[0]; return nil }},
-		kindUnless:   {[]operand{ofPlace}, 1, 0, func(m *machine, i instruction) error { m.unless(i.operands[0]); return nil }},
-		kindAgain:    {[]operand{ofPlace}, 1, 1, func(m *machine, i instruction) error { m.again(i.operands[0]); return nil }},
-		kindTry:      {[]operand{ofPlace}, 0, 0, func(m *machine, i instruction) error { m.begin(m.height(), i.operands[0]); return nil }},
-		kindKeep:     {[]operand{ofPlace}, 0, 0, func(m *machine, i instruction) error { m.leave(); m.place = i.operands[0]; return nil }},
-		kindFail:     {nil, 0, 0, func(*machine, instruction) error { return errFails }},
-		kindAsk:      {[]operand{ofWord, plain}, 1, 1, func(m *machine, i instruction) error { return m.call(i.operands[0], i.operands[1]) }},
-		kindLay:      {[]operand{ofWord}, 1, 1, func(m *machine, i instruction) error { m.lay(i.operands[0], m.top()); return nil }},
+		kindNot:      {nil, 1, 1, func(m *Machine, _ instruction) error { m.push(truth(m.pop() == 0)); return nil }},
+		kindJump:     {[]operand{ofPlace}, 0, 0, func(m *Machine, i instruction) error { m.place = i.operands[0]; return nil }},
+		kindUnless:   {[]operand{ofPlace}, 1, 0, func(m *Machine, i instruction) error { m.unless(i.operands[0]); return nil }},
+		kindAgain:    {[]operand{ofPlace}, 1, 1, func(m *Machine, i instruction) error { m.again(i.operands[0]); return nil }},
+		kindTry:      {[]operand{ofPlace}, 0, 0, func(m *Machine, i instruction) error { m.begin(m.height(), i.operands[0]); return nil }},
+		kindKeep:     {[]operand{ofPlace}, 0, 0, func(m *Machine, i instruction) error { m.leave(); m.place = i.operands[0]; return nil }},
+		kindFail:     {nil, 0, 0, func(*Machine, instruction) error { return errFails }},
+		kindAsk:      {[]operand{ofWord, plain}, 1, 1, func(m *Machine, i instruction) error { return m.call(i.operands[0], i.operands[1]) }},
+		kindLay:      {[]operand{ofWord}, 1, 1, func(m *Machine, i instruction) error { m.lay(i.operands[0], m.top()); return nil }},
 	}
 }
 
 // pair is the meaning of a kind that makes one of two and can't fail.
 func pair(joined func(left, right int64) int64) meaning {
-	return meaning{nil, 2, 1, func(m *machine, _ instruction) error {
+	return meaning{nil, 2, 1, func(m *Machine, _ instruction) error {
 		right := m.pop()
 		m.push(joined(m.pop(), right))
 		return nil

@@ -1,6 +1,9 @@
 package machine
 
-import "errors"
+import (
+	"errors"
+	"slices"
+)
 
 // End is how an errand ended, by the document's numbers.
 type End int
@@ -26,11 +29,11 @@ var (
 	errStuck = errors.New("what was done can't be undone")
 )
 
-// machine carries out a program.
-type machine struct {
+// Machine carries out a program. What is asked it takes to its journal.
+type Machine struct {
 	stack
 	piles
-	journal
+	Journal
 	program   *Program
 	table     [kindCount]meaning
 	variables []int64
@@ -40,18 +43,38 @@ type machine struct {
 	end       End  // Waits, as long as it has not ended
 }
 
+// New makes a machine that stands ahead of a program.
+func New(p *Program, j Journal) *Machine {
+	return &Machine{Journal: j, program: p, table: meanings(), variables: make([]int64, p.variables)}
+}
+
 // Run carries out a program with answers, and tells what was asked and how it ended. Of one that is Spent the document tells the end alone, and so does Run.
 func Run(p *Program, answers []int) ([]Ask, End) {
-	m := &machine{journal: journal{answers: answers}, program: p, table: meanings(), variables: make([]int64, p.variables)}
-	end := m.run(maxWork)
+	l := &list{answers: answers}
+	end := New(p, l).Go()
 	if end == Spent {
 		return nil, end
 	}
-	return m.asks, end
+	return l.asks, end
+}
+
+// Go goes on till the errand has ended or the journal has no answer. Once it has one, Go goes on from there.
+func (m *Machine) Go() End { return m.run(maxWork) }
+
+// End tells how it has ended: Waits, if it has not.
+func (m *Machine) End() End { return m.end }
+
+// Value tells what a variable holds; false: there is none of that name.
+func (m *Machine) Value(name string) (int, bool) {
+	i := slices.Index(m.program.names, name)
+	if i < 0 {
+		return 0, false
+	}
+	return int(m.variables[i]), true
 }
 
 // run makes steps till there is nothing to be done or no answer, at most so many.
-func (m *machine) run(most int) End {
+func (m *Machine) run(most int) End {
 	for range most {
 		err := m.step()
 		if err != nil && !m.goesOn(err) || m.end != Waits {
@@ -62,7 +85,7 @@ func (m *machine) run(most int) End {
 }
 
 // goesOn tells whether another step follows one that was not made to its end.
-func (m *machine) goesOn(err error) bool {
+func (m *Machine) goesOn(err error) bool {
 	switch {
 	case errors.Is(err, errStuck):
 		m.end = Stuck
@@ -73,7 +96,7 @@ func (m *machine) goesOn(err error) bool {
 }
 
 // step carries out an instruction, or undoes one thing. One that is not made to its end is brought back, so that it can be made again.
-func (m *machine) step() (err error) {
+func (m *Machine) step() (err error) {
 	before := m.place
 	defer func() {
 		if err != nil {
@@ -93,8 +116,8 @@ func (m *machine) step() (err error) {
 }
 
 // ask asks a word once; at the last no of so many it fails.
-func (m *machine) ask(word int, arg int64, most int, undoes bool) (int64, error) {
-	answer, ok := m.answerTo(Ask{m.program.words[word], int(arg), m.tried + 1, undoes})
+func (m *Machine) ask(word int, arg int64, most int, undoes bool) (int64, error) {
+	answer, ok := m.AnswerTo(Ask{m.program.words[word], int(arg), m.tried + 1, undoes})
 	if !ok {
 		return 0, errWaits
 	}
@@ -109,7 +132,7 @@ func (m *machine) ask(word int, arg int64, most int, undoes bool) (int64, error)
 	return int64(answer), nil
 }
 
-func (m *machine) call(word, tries int) error {
+func (m *Machine) call(word, tries int) error {
 	answer, err := m.ask(word, m.top(), tries, false)
 	if err == nil {
 		m.pop()
@@ -119,7 +142,7 @@ func (m *machine) call(word, tries int) error {
 }
 
 // undoNext undoes one thing of the pile at hand, or goes on behind it.
-func (m *machine) undoNext() error {
+func (m *Machine) undoNext() error {
 	u, left := m.next()
 	if !left {
 		m.goBehind()
@@ -136,7 +159,7 @@ func (m *machine) undoNext() error {
 }
 
 // goBehind goes on when a pile is undone: with the second block of its try, or not at all.
-func (m *machine) goBehind() {
+func (m *Machine) goBehind() {
 	m.undoing = false
 	left, ok := m.leave()
 	if !ok {
@@ -147,7 +170,7 @@ func (m *machine) goBehind() {
 	m.place = left.second
 }
 
-func (m *machine) divide() error {
+func (m *Machine) divide() error {
 	right := m.top()
 	if right == 0 {
 		return errFails
@@ -157,13 +180,13 @@ func (m *machine) divide() error {
 	return nil
 }
 
-func (m *machine) unless(place int) {
+func (m *Machine) unless(place int) {
 	if m.pop() == 0 {
 		m.place = place
 	}
 }
 
-func (m *machine) again(place int) {
+func (m *Machine) again(place int) {
 	if count := m.pop(); count > 0 {
 		m.push(count - 1)
 	} else {

@@ -20,8 +20,8 @@ func made(t *testing.T, text string) *Program {
 	return Make(tree)
 }
 
-func started(p *Program, answers ...int) *machine {
-	return &machine{journal: journal{answers: answers}, program: p, table: meanings(), variables: make([]int64, p.variables)}
+func started(p *Program, answers ...int) *Machine {
+	return New(p, &list{answers: answers})
 }
 
 func TestEveryKindHasAMeaning(t *testing.T) {
@@ -41,6 +41,7 @@ func TestWhatIsWrittenIsRead(t *testing.T) {
 	} {
 		p := made(t, text)
 		got, err := Read(Write(p))
+		p.names = nil
 		if err != nil || !reflect.DeepEqual(got, p) {
 			t.Errorf("%q: %v, %v, want %v", text, got, err, p)
 		}
@@ -49,7 +50,7 @@ func TestWhatIsWrittenIsRead(t *testing.T) {
 
 // program makes one with two variables and two words.
 func program(list ...instruction) *Program {
-	return &Program{[]string{"a", "b"}, 2, list}
+	return &Program{words: []string{"a", "b"}, variables: 2, list: list}
 }
 
 func in(k kind, operands ...int) instruction {
@@ -161,7 +162,7 @@ func TestAnyInstructions(t *testing.T) {
 	}
 }
 
-func testHeights(t *testing.T, v *verifier, m *machine) {
+func testHeights(t *testing.T, v *verifier, m *Machine) {
 	t.Helper()
 	for range 200 {
 		if want := v.states[m.place]; !m.undoing && (!want.known || want.height != m.height() || (want.try != noTry) != (len(m.begun) > 0)) {
@@ -202,15 +203,16 @@ func TestStepsAreBounded(t *testing.T) {
 }
 
 func TestAStepThatWaitsIsBroughtBack(t *testing.T) {
-	m := started(made(t, "call a(7)as x undo b tries 2;fail;"), -1)
+	answers := &list{answers: []int{-1}}
+	m := New(made(t, "call a(7)as x undo b tries 2;fail;"), answers)
 	if end := m.run(maxWork); end != Waits || m.program.list[m.place].kind != kindAsk {
 		t.Fatalf("%d at %d", end, m.place)
 	}
-	m.answers = []int{5, -1}
+	answers.answers = []int{5, -1}
 	if end := m.run(maxWork); end != Waits || !m.undoing || m.variables[0] != 5 {
 		t.Fatalf("%d at %d, x is %d", end, m.place, m.variables[0])
 	}
-	m.answers = []int{0}
+	answers.answers = []int{0}
 	if end := m.run(maxWork); end != Undone {
 		t.Errorf("%d at %d", end, m.place)
 	}

@@ -18,7 +18,7 @@ type maker struct {
 func Make(errand lang.Block) *Program {
 	m := &maker{}
 	m.block(errand)
-	return &Program{m.words, len(m.variables), m.list}
+	return &Program{m.words, len(m.variables), m.variables, m.list}
 }
 
 func (m *maker) put(k kind, operands ...int) {

@@ -5,6 +5,7 @@ package machine
 type Program struct {
 	words     []string // that are asked
 	variables int      // how many there are
+	names     []string // of the variables; code tells none
 	list      []instruction
 }
 
