@@ -2,7 +2,10 @@ package journal
 
 import (
 	"errors"
+	"math/rand"
 	"slices"
+	"strconv"
+	"strings"
 	"testing"
 
 	"errand/files"
@@ -56,6 +59,64 @@ func TestWhatIsRead(t *testing.T) {
 		var fault *Fault
 		if !slices.Equal(answers, c.answers) || !errors.Is(err, c.err) || (err != nil) != errors.As(err, &fault) {
 			t.Errorf("read(%q) = %v, %v, want %v, %v", c.stands, answers, err, c.answers, c.err)
+		}
+	}
+}
+
+// Journals that stand already must be found again: so the bytes of a heading stay as they were.
+func TestTheHeadingIsTheTextInQuotes(t *testing.T) {
+	all := "\n"
+	for c := ' '; c <= '~'; c++ {
+		all += string(c)
+	}
+	for _, text := range []string{"", " ", "\n", "\n\n", text, "\nlet x=1;\n\nif x#(2){}\n", all, strings.Repeat("\n", 300), strings.Repeat("fail;", 60)} {
+		if got, want := heading(text), strconv.Quote(text)+"\n"; got != want {
+			t.Errorf("heading(%q) = %q, want %q", text, got, want)
+		}
+	}
+}
+
+func TestNoTwoTextsHaveOneHeading(t *testing.T) {
+	texts := []string{""}
+	of := map[string]string{}
+	for i := 0; i < len(texts); i++ {
+		line := heading(texts[i])
+		if other, ok := of[line]; ok || strings.Index(line, "\n") != len(line)-1 {
+			t.Errorf("heading(%q) = %q, as that of %q", texts[i], line, other)
+		}
+		of[line] = texts[i]
+		if len(texts[i]) < 5 {
+			for _, c := range []string{"\n", "\\", "n", "\"", "\xff"} {
+				texts = append(texts, texts[i]+c)
+			}
+		}
+	}
+}
+
+func TestNumbersAreRead(t *testing.T) {
+	texts := []string{
+		"", "-", "+", "0", "-0", "+0", "007", "-007", "+7", "--7", "+-7", "-+7", "7-", "7 ", " 7", "1_000", "0x7", "7.0", "1e3", "\x00", "\xff", "/", ":", "٧",
+		"9223372036854775799", "9223372036854775807", "9223372036854775808", "9223372036854775809", "9223372036854775810", "+9223372036854775807", "+9223372036854775808",
+		"-9223372036854775799", "-9223372036854775807", "-9223372036854775808", "-9223372036854775809", "-9223372036854775810", "-9223372036854775818",
+		"922337203685477580", "922337203685477581", "18446744073709551615", "18446744073709551616", "-18446744073709551616", "99999999999999999999", "00000000000000000000009", "-00000000000000000000009",
+		strings.Repeat("9", 1000), strings.Repeat("0", 1000) + "5",
+	}
+	chance := rand.New(rand.NewSource(9))
+	for range 20000 {
+		texts = append(texts, strconv.Itoa(int(chance.Uint64()>>chance.Intn(64))))
+		some := make([]byte, chance.Intn(22))
+		for i := range some {
+			some[i] = "-+0123456789999x"[chance.Intn(16)]
+		}
+		texts = append(texts, string(some))
+	}
+	for _, text := range texts {
+		want, err := strconv.Atoi(text)
+		if err != nil {
+			want = 0
+		}
+		if got, ok := readNumber(text); got != want || ok != (err == nil) {
+			t.Errorf("readNumber(%q) = %d, %v, want %d, %v", text, got, ok, want, err)
 		}
 	}
 }

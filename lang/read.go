@@ -1,7 +1,5 @@
 package lang
 
-import "strconv"
-
 const (
 	maxText = 300
 	maxNest = 4
@@ -99,8 +97,16 @@ func (r *reader) variable() *Variable {
 
 func (r *reader) number() *Number {
 	s := r.mustBe(signNumber)
-	value, _ := strconv.Atoi(s.text) // so few digits are always a number
-	return &Number{value, s.place}
+	return &Number{valueOf(s.text), s.place}
+}
+
+// valueOf reads the digits of a sign, which are too few to wrap round. (The error of strconv.Atoi would reach tables that are too great.)
+func valueOf(digits string) int {
+	value := 0
+	for i := range len(digits) {
+		value = value*10 + int(digits[i]-'0')
+	}
+	return value
 }
 
 // open takes a sign that begins a block or a bracket, and counts how deep that stands.

@@ -2,6 +2,7 @@ package lang
 
 import (
 	"errors"
+	"strconv"
 	"strings"
 	"testing"
 )
@@ -47,6 +48,21 @@ func TestSigns(t *testing.T) {
 	} {
 		if got, ok := signFrom(c.text, 0); got != c.want || ok != c.ok {
 			t.Errorf("signFrom(%q) = %v, %v, want %v, %v", c.text, got, ok, c.want, c.ok)
+		}
+	}
+}
+
+func TestEveryNumberIsRead(t *testing.T) {
+	for n := range 10000 {
+		digits := strconv.Itoa(n)
+		for ; len(digits) <= maxDigits; digits = "0" + digits {
+			tree, err := Read("let x=" + digits + ";")
+			if err != nil {
+				t.Fatal(err)
+			}
+			if got := tree[0].(*Let).Value.(*Number); got.Value != n || got.Place != 6 {
+				t.Errorf("%s was read as %v", digits, got)
+			}
 		}
 	}
 }

@@ -118,6 +118,19 @@ func TestBytesThatAreNone(t *testing.T) {
 	}
 }
 
+func TestWordsOfCode(t *testing.T) {
+	for b := range 256 {
+		for _, w := range []string{"", "a", "zz"} {
+			for _, word := range []string{string([]byte{byte(b)}) + w, w + string([]byte{byte(b)}), w + string([]byte{byte(b)}) + w} {
+				p, err := Read(Write(&Program{words: []string{word}}))
+				if isLetter := 'a' <= b && b <= 'z'; isLetter != (err == nil) || isLetter && p.words[0] != word {
+					t.Errorf("the word %q: %v, %v", word, p, err)
+				}
+			}
+		}
+	}
+}
+
 // grown makes a program by chance of which each instruction fits behind those ahead of it; what is reckoned of it comes along.
 func grown(chance *rand.Rand) *verifier {
 	p := program(make([]instruction, 1+chance.Intn(12))...)

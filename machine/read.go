@@ -82,11 +82,13 @@ func (r *reader) word() (string, bool) {
 		return "", false
 	}
 	w, ok := r.bytes(int(length[0]))
-	if !ok || strings.Trim(w, "abcdefghijklmnopqrstuvwxyz") != "" {
+	if !ok || strings.ContainsFunc(w, isNoLetter) {
 		return "", false
 	}
 	return strings.Clone(w), true
 }
+
+func isNoLetter(c rune) bool { return c < 'a' || c > 'z' }
 
 func (r *reader) instruction() (instruction, bool) {
 	b, ok := r.bytes(1)
